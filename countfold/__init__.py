@@ -1,0 +1,1 @@
+"""Countfold: sets with counting, joined with sums."""

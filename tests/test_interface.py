@@ -1,0 +1,58 @@
+"""What the interface lists stands in the file under which it is listed, with the arguments listed."""
+
+import ast
+import importlib
+import inspect
+import unittest
+from pathlib import Path
+
+PACKAGE = Path(__file__).resolve().parent.parent / "countfold"
+
+INTERFACE = {
+    "errors": ["FoldError", "NoTalk", "NoText", "NoWorld", "NoPapers", "NoMark", "TooMany(many)", "NotBase(paper)",
+               "NoSaying(saying)", "NoSum(total)", "NoExchange(exchange)", "NoLine(line)", "LackError", "NoName(name)",
+               "NoRegion(region)", "NoNumber(number)"],
+    "names": ["MOST", "MANY", "is_whole(thing, *, least=None, most=None)", "is_name(thing)"],
+    "talks": ["Talk(sets=(), numbers=(), *, most=12)"],
+    "terms": ["is_term(talk, thing)", "regions_of(talk, term)", "term_for(talk, regions)",
+              "are_alike(talk, term, other)"],
+    "rows": ["row_worth(row, values)", "added(rows, weights, *, width)", "divisor_of(row)"],
+}
+METHODS = {
+    ("talks", "Talk"): ["sets(self)", "numbers(self)", "most(self)", "regions(self)", "lies(self, region, name)",
+                        "place(self, name)", "wider(self, name)", "halves(self, region, name)",
+                        "__eq__(self, other)", "__len__(self)", "__str__(self)", "__repr__(self)"],
+}
+
+
+def told(name, thing):
+    return name + str(inspect.signature(thing))
+
+
+class Interface(unittest.TestCase):
+    def test_each_name_is_defined_in_its_file(self):
+        for module, listed in INTERFACE.items():
+            body = ast.parse((PACKAGE / (module + ".py")).read_text()).body
+            defined = [row.name for row in body if isinstance(row, (ast.FunctionDef, ast.ClassDef))]
+            defined += [row.targets[0].id for row in body if isinstance(row, ast.Assign)]
+            for entry in listed:
+                self.assertIn(entry.split("(")[0], defined)
+
+    def test_arguments(self):
+        for module, listed in INTERFACE.items():
+            found = importlib.import_module("countfold." + module)
+            for entry in listed:
+                name = entry.split("(")[0]
+                if "(" in entry:
+                    self.assertEqual(told(name, getattr(found, name)), entry)
+
+    def test_methods_are_the_class_s_own(self):
+        for (module, name), listed in METHODS.items():
+            own = vars(getattr(importlib.import_module("countfold." + module), name))
+            for entry in listed:
+                method = entry.split("(")[0]
+                self.assertEqual(told(method, own[method]), entry)
+
+
+if __name__ == "__main__":
+    unittest.main()
