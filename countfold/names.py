@@ -19,3 +19,16 @@ def is_name(thing):
     if not isinstance(thing, str) or not 1 <= len(thing) <= _LONGEST:
         return False
     return all([sign in _LETTERS for sign in thing])
+
+
+def figures(number):
+    """The text of a whole number, however many figures it has."""
+    # Python turns no number of more than some thousand figures into a text at once.
+    rest = abs(number)
+    lots = []
+    while rest >= 10 ** 64:
+        rest, low = divmod(rest, 10 ** 64)
+        lots.append(str(low).zfill(64))
+    lots.append(str(rest))
+    sign = "-" if number < 0 else ""
+    return sign + "".join(lots[::-1])

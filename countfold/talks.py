@@ -1,7 +1,7 @@
 """Talks: names of sets and of numbers, and a bound."""
 
 from countfold.errors import NoName, NoRegion, NoTalk
-from countfold.names import MOST, is_name, is_whole
+from countfold.names import MOST, figures, is_name, is_whole
 
 _MOST_SETS = 3
 _MOST_NUMBERS = 2
@@ -93,7 +93,7 @@ class Talk:
         return len(self._unknowns)
 
     def __str__(self):
-        return ";".join([",".join(self._sets), ",".join(self._numbers), str(self._most)])
+        return ";".join([",".join(self._sets), ",".join(self._numbers), figures(self._most)])
 
     def __repr__(self):
-        return f"Talk({len(self._sets)} sets, {len(self._numbers)} numbers, most {self._most})"
+        return f"Talk({len(self._sets)} sets, {len(self._numbers)} numbers, most {figures(self._most)})"

@@ -17,6 +17,13 @@ INTERFACE = {
     "terms": ["is_term(talk, thing)", "regions_of(talk, term)", "term_for(talk, regions)",
               "are_alike(talk, term, other)"],
     "rows": ["row_worth(row, values)", "added(rows, weights, *, width)", "divisor_of(row)"],
+    "sums": ["is_sum(talk, thing)", "row_of(talk, addends)", "sum_for(talk, row)", "worth_of(talk, world, addends)"],
+    "worlds": ["is_world(talk, thing)", "worlds_many(talk)", "world_at(talk, number)", "number_of(talk, world)",
+               "members_of(talk, world)", "counted(talk, members, *, many, values=())"],
+    "sayings": ["is_saying(talk, thing)", "names_in(saying)"],
+    "truth": ["is_true(talk, world, saying)", "is_true_of(talk, members, saying, *, many, values=())"],
+    "texts": ["term_text(term)", "sum_text(addends)", "saying_text(saying)", "world_text(world)",
+              "book_text(talk, sayings)"],
 }
 METHODS = {
     ("talks", "Talk"): ["sets(self)", "numbers(self)", "most(self)", "regions(self)", "lies(self, region, name)",

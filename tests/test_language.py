@@ -109,6 +109,27 @@ class Words(unittest.TestCase):
                 if isinstance(row, ast.Attribute):
                     self.assertNotEqual(row.attr, "sort", path)
 
+    def test_exponents_are_small_literals(self):
+        for path, tree in trees():
+            for row in ast.walk(tree):
+                if isinstance(row, ast.BinOp) and isinstance(row.op, ast.Pow):
+                    self.assertIsInstance(row.right, ast.Constant, path)
+                    self.assertIn(row.right.value, range(65), path)
+
+    def test_what_the_library_brings_is_called_by_place(self):
+        for path, tree in trees():
+            brought = {alias.name for row in imports(tree) if row.module in LIBRARY for alias in row.names}
+            calls = [row for row in ast.walk(tree) if isinstance(row, ast.Call) and isinstance(row.func, ast.Name)
+                     and row.func.id in brought]
+            read = [row for row in ast.walk(tree) if isinstance(row, ast.Name) and row.id in brought]
+            self.assertEqual(len(calls), len(read), path)
+            self.assertEqual([row for row in calls if row.keywords], [], path)
+
+    def test_no_name_is_an_import_s_as_well(self):
+        for path, tree in trees():
+            brought = {alias.name for row in imports(tree) for alias in row.names}
+            self.assertEqual([name for name in bound(tree) if name in brought], [], path)
+
     def test_no_barred_name_and_no_builtin_rebound(self):
         for path, tree in trees():
             names = bound(tree)

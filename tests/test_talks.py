@@ -2,17 +2,9 @@ import unittest
 
 from countfold.errors import NoName, NoRegion, NoTalk
 from countfold.talks import Talk
-from tests.things import THIRTY, no_texts, no_wholes
+from tests.things import THIRTY, no_texts, no_wholes, refused
 
 NAMES = ["a", "b", "c"]
-
-
-def refused(test, error, call, *args, **more):
-    """The error that a call raises, of just this class."""
-    with test.assertRaises(error) as caught:
-        call(*args, **more)
-    test.assertIs(type(caught.exception), error)
-    return caught.exception
 
 
 class Making(unittest.TestCase):

@@ -5,26 +5,10 @@ import unittest
 from countfold.errors import NoRegion
 from countfold.talks import Talk
 from countfold.terms import are_alike, is_term, regions_of, term_for
+from tests.plainly import broad_term, deep_term
 from tests.things import THIRTY, nested, no_wholes
 
 TALK = Talk(("a", "b", "c"), ("n",))
-
-
-def deep_term(deep, leaf="a"):
-    """A term so deep."""
-    term = leaf
-    for _ in range(deep - 1):
-        term = ("not", term)
-    return term
-
-
-def broad_term(parts):
-    """A term of so many names, the joins between them and a not where they are even in number."""
-    layer = ["a"] * ((parts + 1) // 2)
-    while len(layer) > 1:
-        pairs = [("and", *layer[at:at + 2]) for at in range(0, len(layer) - 1, 2)]
-        layer = pairs + layer[len(pairs) * 2:]
-    return layer[0] if parts % 2 else ("not", layer[0])
 
 
 def parts_of(term):

@@ -17,3 +17,11 @@ def no_texts():
 
 def no_wholes():
     return [None, True, False, "", "1", "a", (), [], {}, (1,), [1], {1: 1}, nested(16)]
+
+
+def refused(test, error, call, *args, **more):
+    """The error that a call raises, of just this class."""
+    with test.assertRaises(error) as caught:
+        call(*args, **more)
+    test.assertIs(type(caught.exception), error)
+    return caught.exception
