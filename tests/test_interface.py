@@ -24,6 +24,16 @@ INTERFACE = {
     "truth": ["is_true(talk, world, saying)", "is_true_of(talk, members, saying, *, many, values=())"],
     "texts": ["term_text(term)", "sum_text(addends)", "saying_text(saying)", "world_text(world)",
               "book_text(talk, sayings)"],
+    "reading": ["DEEP", "read_term(text, *, deep=40)", "read_sum(text, *, deep=40)", "read_saying(text, *, deep=40)",
+                "read_talk(text)", "read_world(text)", "read_book(text, *, deep=40)"],
+    "cases": ["cases_many(sayings, *, turned=False)", "cases_of(talk, sayings, *, most=32)",
+              "holds_in(talk, world, piece)", "case_at(talk, sayings, world, *, most=32)"],
+    "systems": ["least_worth(talk, row)", "greatest_worth(talk, row)", "width_of(talk, case)",
+                "system_of(talk, case)", "values_of(talk, world, case)"],
+    "wholes": ["settled(rows, *, width)", "shows_rest(rows, thing, *, width)", "spread(paper, times)",
+               "times_of(paper, values)"],
+    "fractions": ["fitted(system, *, width)", "is_point(system, thing, *, width)",
+                  "is_clash(system, thing, *, width)"],
 }
 METHODS = {
     ("talks", "Talk"): ["sets(self)", "numbers(self)", "most(self)", "regions(self)", "lies(self, region, name)",

@@ -1,6 +1,7 @@
 """The rules of the language that a look at one file, or at the imports, can tell."""
 
 import ast
+import builtins
 import unittest
 from pathlib import Path
 
@@ -19,6 +20,15 @@ DOUBLE = set("""__init__ __eq__ __repr__ __str__ __len__ __enter__ __exit__ __ca
 NEVER = (ast.Global, ast.AsyncFunctionDef, ast.AsyncFor, ast.AsyncWith, ast.Await, ast.Import, ast.Div, ast.MatMult,
          # Allowed in places; the package does without them, as a class of it has an __eq__.
          ast.GeneratorExp)
+METHODS = set("""append clear copy count endswith extend find get index insert isalnum isalpha isdigit islower isspace
+    isupper items join keys ljust lower lstrip partition pop remove replace reverse rfind rjust rpartition rsplit rstrip
+    setdefault split splitlines startswith strip update upper values zfill bit_length add discard""".split())
+CHANGING = set("append clear extend insert pop remove reverse setdefault update".split())
+KEYWORDS = {"sorted": {"key", "reverse"}, "min": {"key", "default"}, "max": {"key", "default"}, "sum": {"start"},
+            "enumerate": {"start"}, "zip": {"strict"}}
+AT_ONCE = {"zip", "enumerate", "reversed", "range", "map"}
+WORDS = set("""type typing typing_extensions enum Enum IntEnum StrEnum Flag IntFlag Generic Protocol ABC ABCMeta
+    namedtuple NamedTuple TypedDict TYPE_CHECKING abstractmethod""".split())
 BARRED = set("""register mro elements open input law version_info with_traceback add_note breakpoint builtins compile
     copyright credits delattr dir eval exec exit gc globals help id importlib license locals os quit type vars sys
     typing enum Enum Generic namedtuple dataclass print chr""".split())
@@ -138,6 +148,62 @@ class Words(unittest.TestCase):
                 if name.startswith("__"):
                     self.assertIn(name, DOUBLE, path)
 
+    def test_no_name_is_a_builtin_s(self):
+        for path, tree in trees():
+            self.assertEqual([name for name in bound(tree) if name in dir(builtins)], [], path)
+
+    def test_is_stands_beside_none_and_truths_alone(self):
+        for path, tree in trees():
+            for row in ast.walk(tree):
+                if isinstance(row, ast.Compare) and any(isinstance(op, (ast.Is, ast.IsNot)) for op in row.ops):
+                    self.assertIsInstance(row.comparators[-1], ast.Constant, (path, row.lineno))
+
+    def test_methods_are_listed_or_the_package_s_own(self):
+        own = {row.name for _, tree in trees() for row in ast.walk(tree) if isinstance(row, ast.FunctionDef)}
+        for path, tree in trees():
+            for row in ast.walk(tree):
+                if isinstance(row, ast.Call) and isinstance(row.func, ast.Attribute):
+                    self.assertIn(row.func.attr, METHODS | own, (path, row.lineno))
+                    self.assertFalse(row.func.attr in METHODS and row.keywords, (path, row.lineno))
+
+    def test_builtins_are_called_and_with_their_keywords_alone(self):
+        for path, tree in trees():
+            for row in ast.walk(tree):
+                if isinstance(row, ast.Call) and isinstance(row.func, ast.Name) and row.func.id in BUILTINS:
+                    told = {word.arg for word in row.keywords}
+                    self.assertLessEqual(told, KEYWORDS.get(row.func.id, set()), (path, row.lineno))
+
+    def test_what_is_gone_over_at_once_is_not_kept(self):
+        for path, tree in trees():
+            for row in ast.walk(tree):
+                if isinstance(row, (ast.Assign, ast.Return)) and isinstance(row.value, ast.Call):
+                    self.assertNotIn(getattr(row.value.func, "id", ""), AT_ONCE, (path, row.lineno))
+                    self.assertNotIn(getattr(row.value.func, "attr", ""), {"items", "keys"}, (path, row.lineno))
+
+    def test_a_loop_does_not_change_what_it_goes_over(self):
+        for path, tree in trees():
+            for loop in ast.walk(tree):
+                if isinstance(loop, ast.For):
+                    over = {ast.unparse(part) for part in ast.walk(loop.iter)
+                            if isinstance(part, (ast.Name, ast.Attribute)) and not self.is_copied(loop.iter)}
+                    for row in [row for part in loop.body for row in ast.walk(part)]:
+                        self.assertFalse(self.changed(row) & over, (path, row))
+
+    def is_copied(self, iterated):
+        return isinstance(iterated, ast.Call) and getattr(iterated.func, "id", "") in ("list", "sorted", "range")
+
+    def changed(self, row):
+        if isinstance(row, ast.Call) and isinstance(row.func, ast.Attribute) and row.func.attr in CHANGING:
+            return {ast.unparse(row.func.value)}
+        targets = row.targets if isinstance(row, (ast.Assign, ast.Delete)) else [getattr(row, "target", None)]
+        return {ast.unparse(target.value) for target in targets if isinstance(target, ast.Subscript)}
+
+    def test_barred_words(self):
+        for path, tree in trees():
+            for row in ast.walk(tree):
+                names = {getattr(row, "id", ""), getattr(row, "attr", ""), getattr(row, "arg", "")}
+                self.assertEqual(names & WORDS, set(), path)
+
     def test_each_name_that_is_read_is_known(self):
         for path, tree in trees():
             known = set(bound(tree)) | BUILTINS | {alias.name for row in imports(tree) for alias in row.names}
@@ -150,6 +216,25 @@ class Words(unittest.TestCase):
                 docstring = at == 0 and isinstance(row, ast.Expr)
                 plain = isinstance(row, (ast.ImportFrom, ast.FunctionDef, ast.ClassDef, ast.Assign))
                 self.assertTrue(docstring or plain, (path, row.lineno))
+
+    def test_no_name_is_a_method_and_an_attribute(self):
+        methods, attributes = set(), set()
+        for path, tree in trees():
+            for row in ast.walk(tree):
+                if isinstance(row, ast.ClassDef):
+                    self.assertTrue(row.name[0].isalpha(), path)
+                    methods |= {part.name for part in row.body if isinstance(part, ast.FunctionDef)}
+                if isinstance(row, ast.Attribute) and isinstance(row.ctx, ast.Store):
+                    attributes.add(row.attr)
+        self.assertEqual(methods & attributes, set())
+        self.assertEqual(attributes & METHODS, set())
+
+    def test_an_error_is_made_where_it_is_raised(self):
+        for path, tree in trees():
+            for row in ast.walk(tree):
+                if isinstance(row, ast.Raise):
+                    self.assertIsInstance(row.exc, ast.Call, path)
+                    self.assertIsInstance(row.exc.func, ast.Name, path)
 
     def test_a_length_is_returned_as_len(self):
         for path, tree in trees():
