@@ -10,11 +10,12 @@ _LETTERS = "abcdefghijklmnopqrstuvwxyz"
 _FIGURES = "0123456789"
 _MOST_FIGURES = 30
 
-_TERM_WORDS = {" & ": "and", " + ": "or", " - ": "but"}
-_SUM_WORDS = {" <= ": "atmost", " = ": "equal"}
-_SET_WORDS = {" in ": "within", " is ": "same"}
-_JOIN_WORDS = {" and ": "both", " or ": "either"}
-_BROAD_WORDS = {"some ": "some", "all ": "all"}
+# Signs, each with the word that it is written for.
+_TERM_WORDS = ((" & ", "and"), (" + ", "or"), (" - ", "but"))
+_SUM_WORDS = ((" <= ", "atmost"), (" = ", "equal"))
+_SET_WORDS = ((" in ", "within"), (" is ", "same"))
+_JOIN_WORDS = ((" and ", "both"), (" or ", "either"))
+_BROAD_WORDS = (("some ", "some"), ("all ", "all"))
 
 
 def read_term(text, *, deep=DEEP):
@@ -74,10 +75,10 @@ def _less(deep):
 
 
 def _word(text, at, words):
-    """The word of the first of these signs that stands there."""
-    for sign in words:
+    """The word of the one of these signs that stands there."""
+    for sign, word in words:
         if text.startswith(sign, at):
-            return words[sign], at + len(sign)
+            return word, at + len(sign)
     raise NoText("no such sign")
 
 

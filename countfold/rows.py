@@ -12,7 +12,9 @@ def added(rows, weights, *, width):
     """The row of all rows, each times its weight."""
     total = [0] * (width + 1)
     for row, weight in zip(rows, weights):
-        total = [have + weight * more for have, more in zip(total, row)]
+        # Most weights of a long paper are 0.
+        if weight != 0:
+            total = [have + weight * more for have, more in zip(total, row)]
     return tuple(total)
 
 

@@ -34,6 +34,12 @@ INTERFACE = {
                "times_of(paper, values)"],
     "fractions": ["fitted(system, *, width)", "is_point(system, thing, *, width)",
                   "is_clash(system, thing, *, width)"],
+    "papers": ["shows_no(system, thing, *, width)", "paths_of(system, paper)"],
+    "fits": ["fits(system, values)", "whole_fit(system, *, width)"],
+    "trims": ["rows_used(system, paper)", "trimmed(system, paper, *, width)", "is_trim(system, paper)"],
+    "prover": ["asked(talk, sayings)", "shows_none(talk, sayings, thing)", "follows(talk, sayings, *, saying)",
+               "shows_follows(talk, sayings, thing, *, saying)"],
+    "ranges": ["ranged(talk, sayings=(), *, total)", "shows_range(talk, sayings, thing, *, total)"],
 }
 METHODS = {
     ("talks", "Talk"): ["sets(self)", "numbers(self)", "most(self)", "regions(self)", "lies(self, region, name)",

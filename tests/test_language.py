@@ -198,6 +198,20 @@ class Words(unittest.TestCase):
         targets = row.targets if isinstance(row, (ast.Assign, ast.Delete)) else [getattr(row, "target", None)]
         return {ast.unparse(target.value) for target in targets if isinstance(target, ast.Subscript)}
 
+    def test_lists_and_dicts_at_module_level_are_read_alone(self):
+        for path, tree in trees():
+            kept = {row.targets[0].id for row in tree.body if isinstance(row, ast.Assign)
+                    and isinstance(row.value, (ast.Dict, ast.List))}
+            above = {id(part): row for row in ast.walk(tree) for part in ast.iter_child_nodes(row)}
+            for row in ast.walk(tree):
+                if isinstance(row, ast.Name) and row.id in kept and isinstance(row.ctx, ast.Load):
+                    use = above[id(row)]
+                    if isinstance(use, ast.Call):
+                        self.assertIn(use.func.id, ("list", "dict", "len", "sorted"), (path, row.lineno))
+                    else:
+                        self.assertIsInstance(use, (ast.Subscript, ast.Compare, ast.Attribute, ast.For,
+                                                    ast.comprehension), (path, row.lineno))
+
     def test_barred_words(self):
         for path, tree in trees():
             for row in ast.walk(tree):
