@@ -1,7 +1,9 @@
 """Fits in whole numbers: whole values from 0 on that fit a system, or a paper that there are none."""
 
 from countfold.fractions import fits_over
-from countfold.searches import Search, reads_of
+from countfold.reads import reads_of
+from countfold.searches import Search
+from countfold.sides import sided_reads
 from countfold.tables import Table
 from countfold.wholes import settled
 
@@ -13,6 +15,16 @@ def fits(system, values):
 
 def whole_fit(system, *, width):
     """Whole values that fit a narrow system, or a paper of it."""
+    return _fit(system, width, None)
+
+
+def parted_fit(system, *, width, ones):
+    """Whole values that fit, or a paper whose splits have coefs on the first so many unknowns alone, or on the others.
+    """
+    return _fit(system, width, ones)
+
+
+def _fit(system, width, ones):
     noughts = [number for number, (kind, _) in enumerate(system) if kind == "nought"]
     paper = settled([system[number][1] for number in noughts], width=width)
     if paper[0] == "rest":
@@ -24,14 +36,20 @@ def whole_fit(system, *, width):
     weights = table.clash()
     if weights is not None:
         return "no", (("clash", weights),)
-    return ("fit", table.wholes()) if table.has_wholes() else _searched(system, table, width)
+    if table.has_wholes():
+        return "fit", table.wholes()
+    if ones is None:
+        return _searched(table, [reads_of(system, table, width=width)])
+    return _searched(table, sided_reads(system, table, width=width, ones=ones))
 
 
-def _searched(system, table, width):
-    """Whole values that fit, or a paper, of a system whose table fits."""
-    reads = reads_of(system, table, width=width)
-    # What takes one search long mostly takes the other one not: so both go on by turns.
-    searches = [Search(table.twin(), reads, by_middles=False), Search(table, reads, by_middles=True)]
+def _searched(table, readings):
+    """Whole values that fit, or a paper, of a table that fits, split by one of several tuples of reads."""
+    # What takes one search long mostly takes another one not: so all go on by turns.
+    searches = []
+    for reads in readings:
+        searches.append(Search(table.twin(), reads, by_middles=False))
+        searches.append(Search(table.twin(), reads, by_middles=True))
     while True:
         for search in searches:
             answer = search.look()

@@ -4,13 +4,13 @@ from countfold.wholes import less_often, nearest, product_of
 
 
 def shortened(vectors, moves, reads):
-    """The reads, from few whole values to many, of moves that lead as far as these and have short vectors.
+    """Moves that lead as far as these and have short vectors, and their reads, from few whole values to many.
 
     A vector is a move's own measure, added as the moves are; no vector is made of the others.
     """
     lattice = Lattice(vectors, moves, reads)
     lattice.shorten()
-    return tuple(lattice.reads[::-1])
+    return tuple(lattice.moves[::-1]), tuple(lattice.reads[::-1])
 
 
 class Lattice:
@@ -40,6 +40,21 @@ class Lattice:
                 for other in range(at - 2, -1, -1):
                     self._lessen(at, other)
                 at += 1
+
+    def lessened(self, vector, move):
+        """A move, less those of the lattice, which is shortened, as often as makes its vector short."""
+        at = len(self.moves)
+        self.vectors.append(vector)
+        self.moves.append(move)
+        self.reads.append(move)
+        self._measure(at)
+        for other in range(at - 1, -1, -1):
+            self._lessen(at, other)
+        self.vectors.pop()
+        self.reads.pop()
+        self.shadows.pop()
+        self.rooms.pop()
+        return self.moves.pop()
 
     def _measure(self, at):
         """The shadows and the room of a vector, those ahead being measured."""

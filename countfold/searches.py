@@ -1,44 +1,7 @@
 """Searches: tables split again and again, until whole values that fit show, or that there are none."""
 
-from countfold.lattices import shortened
 from countfold.papers import other_side
-from countfold.rows import added
-from countfold.wholes import nearest, product_of, settled, units
-
-# How finely the vectors of moves are measured.
-_FINE = 1000
-
-
-def reads_of(system, table, *, width):
-    """Rows' coefs, all whole just where the unknowns are, where the system fits; it does, and the table is of it.
-
-    The first ones have the fewest whole values there. The table's point is another one behind.
-    """
-    rows = [(0, *unit) for unit in units(width)] + [row for kind, row in system if kind == "least"]
-    spans = [table.greatest(row) for row in rows]
-    # What is never above 0 is as good as a nought row.
-    held = [row for kind, row in system if kind == "nought"]
-    held.extend([row for row, span in zip(rows, spans) if span is not None and span[0] == 0])
-    paper = settled(held, width=width)
-    if paper[0] == "rest":
-        return (_broken_read(held, paper, width),)
-    _, _, moves, reads = paper
-    measures = [(row, *span) for row, span in zip(rows, spans) if span is not None and span[0] > 0]
-    return shortened([_vector(move, measures) for move in moves], moves, reads)
-
-
-def _broken_read(rows, rest, width):
-    """What is worth the same, no whole number, wherever the rows are worth 0."""
-    _, weights, divisor = rest
-    return tuple([coef // divisor for coef in added(rows, weights, width=width)[1:]])
-
-
-def _vector(move, measures):
-    """How much of each row's span a move goes along; behind it the move itself, that moves alone are alike."""
-    most = max([1] + [worth // divisor for _, worth, divisor in measures])
-    fine = _FINE * (most + 1)
-    shares = [fine * product_of(row[1:], move) * divisor // worth for row, worth, divisor in measures]
-    return (*shares, *move)
+from countfold.wholes import nearest, product_of
 
 
 class Search:

@@ -39,6 +39,15 @@ INTERFACE = {
     "trims": ["rows_used(system, paper)", "trimmed(system, paper, *, width)", "is_trim(system, paper)"],
     "prover": ["asked(talk, sayings)", "shows_none(talk, sayings, thing)", "follows(talk, sayings, *, saying)",
                "shows_follows(talk, sayings, thing, *, saying)"],
+    "exchanges": ["column(rows, group)", "can_exchange(talk, rows, world, thing)",
+                  "exchanged(talk, rows, world, exchanges)"],
+    "few": ["is_few(talk, rows, world)", "few_of(talk, rows, world)", "rows_at(talk, sayings, world)",
+            "few_world(talk, sayings, world)"],
+    "parts": ["part_of(talk, sayings)", "shared(one, other)", "led(talk, world, part)",
+              "joined(talk, one, world, other, other_world)"],
+    "pairs": ["pair_system(one, case, other, other_case)", "is_parted(one, case, other, other_case, thing)"],
+    "between": ["between(talk, ones, others)", "shows_apart(talk, ones, others, thing)",
+                "saying_between(talk, ones, others, papers)"],
     "ranges": ["ranged(talk, sayings=(), *, total)", "shows_range(talk, sayings, thing, *, total)"],
 }
 METHODS = {

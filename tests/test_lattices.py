@@ -1,3 +1,4 @@
+import copy
 import unittest
 from fractions import Fraction
 
@@ -23,7 +24,7 @@ class Shortened(unittest.TestCase):
                                                       for place in range(8 + many)))
                 self.assertEqual([product(move, read) for read in lattice.reads], list(units(many)[at]))
             self.assertShort(lattice)
-            self.assertEqual(shortened(vectors, units(many), units(many)), tuple(lattice.reads[::-1]))
+            self.assertEqual(shortened(vectors, units(many), units(many)), (tuple(lattice.moves[::-1]), tuple(lattice.reads[::-1])))
 
     def assertShort(self, lattice):
         straight = []
@@ -42,9 +43,29 @@ class Shortened(unittest.TestCase):
     def test_the_thin_way_comes_first(self):
         # Over (9, 10) the first coordinate changes by 1, the second by 90: along (10, -9) only a little room is.
         vectors = [(100 * 9, 0), (100 * 10, 1)]
-        first = shortened(vectors, units(2), units(2))[0]
+        first = shortened(vectors, units(2), units(2))[1][0]
         self.assertIn(first, [(9, 10), (-9, -10)])
-        self.assertEqual(shortened([], [], []), ())
+        self.assertEqual(shortened([], [], []), ((), ()))
+
+    def test_lessened(self):
+        maker = Maker(71)
+        for _ in range(40):
+            many, most = maker.whole(0, 5), maker.among(2, 10, 10 ** 6)
+            vectors = [(*maker.row(7, most), *unit) for unit in units(many)]
+            lattice = Lattice(vectors, units(many), units(many))
+            lattice.shorten()
+            kept = copy.deepcopy((lattice.vectors, lattice.moves, lattice.shadows, lattice.rooms))
+            vector, move = (*maker.row(7, 10 ** 9), *[0] * many), (0,) * many
+            often = lattice.lessened(vector, move)
+            self.assertEqual((lattice.vectors, lattice.moves, lattice.shadows, lattice.rooms), kept)
+            short = [part + sum(times * old[place] for times, old in zip(often, vectors)) for place, part in enumerate(vector)]
+            straight = []
+            for ahead in lattice.vectors:
+                rest = [Fraction(part) for part in ahead]
+                for one in straight:
+                    rest = [part - product(ahead, one) / product(one, one) * more for part, more in zip(rest, one)]
+                straight.append(rest)
+                self.assertLessEqual(abs(product(short, rest) / product(rest, rest)), Fraction(1, 2))
 
 
 if __name__ == "__main__":

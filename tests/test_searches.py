@@ -1,6 +1,7 @@
 import unittest
 
-from countfold.searches import Search, reads_of
+from countfold.reads import reads_of
+from countfold.searches import Search
 from countfold.tables import Table
 from tests import adding
 from tests.makers import Maker
