@@ -56,10 +56,10 @@ def _cases(talk, saying, turned):
     if word in ("both", "either"):
         firsts, seconds = _cases(talk, saying[1], turned), _cases(talk, saying[2], turned)
         return _each_with_each(firsts, seconds) if _is_joined(word, turned) else firsts + seconds
-    return [(piece,) for piece in _plain_pieces(talk, saying, turned)]
+    return [(piece,) for piece in plain_pieces(talk, saying, turned)]
 
 
-def _plain_pieces(talk, saying, turned):
+def plain_pieces(talk, saying, turned):
     """The pieces of a saying of sums or terms, or of not, of it, each of a case of its own."""
     word, first, second = saying
     if word == "parts":
@@ -92,6 +92,11 @@ def _lowered(row):
 
 def holds_in(talk, world, piece):
     """Whether a piece is true in a world of the talk."""
+    return is_true_piece(world, piece)
+
+
+def is_true_piece(world, piece):
+    """Whether a piece is true in a world."""
     counts, values = world
     worth = row_worth(piece[-1], [*counts, *values])
     if piece[0] == "least":

@@ -189,7 +189,7 @@ def read_talk(text):
         raise NoText("not a talk's three parts")
     sets, numbers = [tuple(_listed(part)) for part in parts[:2]]
     try:
-        return Talk(sets, numbers, most=_number_of(parts[2]))
+        return Talk(sets, numbers, most=read_number(parts[2]))
     except NoTalk:
         raise NoText("not a talk") from None
 
@@ -199,8 +199,8 @@ def _listed(text):
     return text.split(",") if text else []
 
 
-def _number_of(text):
-    """The whole number that is all of a text."""
+def read_number(text):
+    """The whole number that is written, of at most thirty figures."""
     number, end = _number(text, 0)
     if end != len(text):
         raise NoText("more than a number")
@@ -213,7 +213,7 @@ def read_world(text):
     parts = text.split(";")
     if len(parts) != 2:
         raise NoText("not a world's two parts")
-    counts, values = [tuple([_number_of(word) for word in _listed(part)]) for part in parts]
+    counts, values = [tuple([read_number(word) for word in _listed(part)]) for part in parts]
     if len(counts) not in (1, 2, 4, 8) or len(values) > 2:
         raise NoText("no talk has so many regions and numbers")
     if any([number < 0 for number in counts + values]):

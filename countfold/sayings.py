@@ -4,8 +4,8 @@ from countfold.names import is_whole
 from countfold.sums import is_sum
 from countfold.terms import is_term
 
-_DEEPEST = 6
-_MOST_PARTS = 24
+DEEPEST = 6
+MOST_PARTS = 24
 
 # How many sayings stand behind each word that makes a saying of others.
 _TAKES = {"not": 1, "both": 2, "either": 2}
@@ -16,15 +16,15 @@ def is_saying(talk, thing):
     layer = [thing]
     parts = 0
     # Layer by layer, so that no more is looked at than a saying may have.
-    for _ in range(_DEEPEST):
+    for _ in range(DEEPEST):
         parts += len(layer)
-        if parts > _MOST_PARTS or not all([_is_headed(talk, part) for part in layer]):
+        if parts > MOST_PARTS or not all([is_headed(talk, part) for part in layer]):
             return False
-        layer = [under for part in layer for under in _sayings_under(part)]
+        layer = [under for part in layer for under in sayings_under(part)]
     return not layer
 
 
-def _is_headed(talk, thing):
+def is_headed(talk, thing):
     """Whether a thing is a saying, whatever stands where others have sayings within."""
     if not isinstance(thing, tuple) or not thing or not isinstance(thing[0], str):
         return False
@@ -40,7 +40,7 @@ def _is_headed(talk, thing):
     return word in ("within", "same") and is_term(talk, thing[1]) and is_term(talk, thing[2])
 
 
-def _sayings_under(saying):
+def sayings_under(saying):
     """The sayings right within a saying."""
     return saying[1:] if saying[0] in _TAKES else ()
 
@@ -53,7 +53,7 @@ def sayings_in(saying):
     while waiting:
         part = waiting.pop()
         found.append(part)
-        waiting.extend(_sayings_under(part)[::-1])
+        waiting.extend(sayings_under(part)[::-1])
     return found
 
 

@@ -48,12 +48,25 @@ INTERFACE = {
     "pairs": ["pair_system(one, case, other, other_case)", "is_parted(one, case, other, other_case, thing)"],
     "between": ["between(talk, ones, others)", "shows_apart(talk, ones, others, thing)",
                 "saying_between(talk, ones, others, papers)"],
+    "broad": ["is_broad(talk, thing)", "shares(talk, world, name)", "is_true_broad(talk, world, saying)"],
+    "plays": ["play_of(talk, world, saying)", "shows_play(talk, world, saying, truth, thing)",
+              "false_at(talk, saying, *, things=3)", "FEW"],
+    "brinks": ["is_simple(talk, thing)", "brink(saying)", "are_alike_by(counts, others, brink)",
+               "answer(counts, others, share, brink)", "cut_counts(counts, brink)", "true_of(talk, counts, saying)",
+               "always(talk, saying)"],
+    "store": ["Store(talk)"],
+    "desk": ["Desk()"],
     "ranges": ["ranged(talk, sayings=(), *, total)", "shows_range(talk, sayings, thing, *, total)"],
 }
 METHODS = {
     ("talks", "Talk"): ["sets(self)", "numbers(self)", "most(self)", "regions(self)", "lies(self, region, name)",
                         "place(self, name)", "wider(self, name)", "halves(self, region, name)",
                         "__eq__(self, other)", "__len__(self)", "__str__(self)", "__repr__(self)"],
+    ("store", "Store"): ["say(self, saying)", "say_all(self, sayings)", "drop(self, number)", "mark(self)", "back(self)",
+                         "asked(self)", "follows(self, *, saying)", "ranged(self, *, total)", "clash(self)",
+                         "standing(self)", "log(self)", "talk(self)", "twin(self)", "__eq__(self, other)",
+                         "__len__(self)", "__repr__(self)"],
+    ("desk", "Desk"): ["say(self, line)"],
 }
 
 

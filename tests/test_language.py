@@ -138,7 +138,13 @@ class Words(unittest.TestCase):
     def test_no_name_is_an_import_s_as_well(self):
         for path, tree in trees():
             brought = {alias.name for row in imports(tree) for alias in row.names}
-            self.assertEqual([name for name in bound(tree) if name in brought], [], path)
+            # A method's name is bound in its class alone.
+            methods = {part.name for row in ast.walk(tree) if isinstance(row, ast.ClassDef)
+                       for part in row.body if isinstance(part, ast.FunctionDef)}
+            self.assertEqual([name for name in bound(tree) if name in brought - methods], [], path)
+            variables = [row.id for row in ast.walk(tree) if isinstance(row, ast.Name) and isinstance(row.ctx, ast.Store)]
+            variables += [row.arg for row in ast.walk(tree) if isinstance(row, ast.arg)]
+            self.assertEqual([name for name in variables if name in brought], [], path)
 
     def test_no_barred_name_and_no_builtin_rebound(self):
         for path, tree in trees():
