@@ -188,6 +188,22 @@ class Hard(Checked):
                         words.append(self.check(talk, ones, others))
         self.assertGreater(min(words.count("yes"), words.count("no")), 5)
 
+    def test_few_steps_where_neither_side_clashes_alone(self):
+        # What one side says of a sum's rest, the other says otherwise: a split by each value of the whole part is enough.
+        talk = Talk(("a", "b"), NUMBERS, most=20)
+        for divisor, coefs, others in [(4, (21, -4, -28, 14, -23, 30, 2), (5, 0, 8, 2, 5, 2, 6)), (3, (1, 2, 1, 0, 1, 0, 0), (1, -1, 4, 0, 1, 3, 0)), (5, (1, 2, 3, 4, 0, 1, 0), (1, 2, -2, 4, 5, 1, 0)),
+                                       (4, (2387, 1760, -62, -1175, -1794, 2727, 1), (3, 4, 2, 1, 2, 3, 5)), (7, (1, 2, 3, 4, 0, 1, 0), (8, 2, 3, -3, 7, 1, 0))]:
+            ones, others = [said(f"{sign}[{divisor} | {self.total(numbers)}]") for sign, numbers in (("~", coefs), ("", others))]
+            for pair in ((ones, others), (others, ones)):
+                self.assertEqual(self.check(talk, *pair), "no")
+                [[paper]] = between(talk, *pair)[1]
+                self.assertLess(len(paper), 1000)
+
+    def total(self, coefs):
+        """The text of a sum of the four regions of a and b, m, n and a lot."""
+        words = ["#(!a - b)", "#(a - b)", "#(!a & b)", "#(a & b)", "m", "n"]
+        return " + ".join([f"{coef} {word}" for coef, word in zip(coefs, words)] + [str(coefs[-1])])
+
     def test_great_coefs(self):
         maker = Maker(106)
         words = []
@@ -325,6 +341,16 @@ class SayingBetween(Checked):
                     break
             else:
                 self.fail(row)
+
+    def test_rows_of_most_on_either_side(self):
+        # Things; a is 4 of them; things; 2 and more are not in a; not in a, a: the first or the third row says that all are 5 or less.
+        talk = Talk(("a",), most=5)
+        ones, others = said("[1 #a = 4]"), said("[2 <= 1 #!a]")
+        for weights in [(0, 1, 1, 1, 0, -1), (1, 1, 0, 1, 1, 0), (1, 2, 1, 2, 1, -1)]:
+            papers = (((("clash", weights),),),)
+            self.assertTrue(shows_apart(talk, ones, others, papers))
+            saying = self.check_saying(talk, ones, others, papers)
+            self.assertEqual(names_in(saying), ["a"])
 
     def test_rests_of_any_weights(self):
         talk = Talk((), ("n",), most=9)
