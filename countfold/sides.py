@@ -43,13 +43,8 @@ def _reads_apart(table, measures, held, ones):
     reads = []
     for low, high in ((0, ones), (ones, table.width)):
         for read in _reads_at(measures, held, low, high):
-            reads.append(_cut((*[0] * low, *read, *[0] * (table.width - high)), low, high))
+            reads.append((*[0] * low, *read, *[0] * (table.width - high)))
     return sorted([(_breadth(table, read), read) for read in reads])
-
-
-def _cut(coefs, low, high):
-    """Coefs, 0 but from low to below high."""
-    return (*[0] * low, *coefs[low:high], *[0] * (len(coefs) - high))
 
 
 def _reads_at(measures, held, low, high):
@@ -93,8 +88,9 @@ def _reads_in_parts(system, table, measures, held, ones):
 
 def _pair(table, read, ones):
     """The two parts of a read, each with its breadth, the narrow one first."""
-    parts = [_cut(read, 0, ones), _cut(read, ones, table.width)]
-    return sorted([(_breadth(table, part), part) for part in parts])
+    left = (*read[:ones], *[0] * (table.width - ones))
+    right = (*[0] * ones, *read[ones:])
+    return sorted([(_breadth(table, part), part) for part in (left, right)])
 
 
 class Side:
